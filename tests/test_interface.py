@@ -1,0 +1,74 @@
+"""The names of the interface stand where the interface lists them."""
+
+import ast
+import pathlib
+import unittest
+
+PACKAGE = pathlib.Path(__file__).resolve().parent.parent / "translatory"
+
+FUNCTIONS = {
+    "running": {"after": ["machine", "configuration", "count"],
+                "history": ["machine", "configuration", "count"],
+                "length": ["machine", "configuration", "limit"],
+                "last": ["machine", "configuration", "limit"]},
+    "turing": {"start": ["word"], "content": ["configuration"],
+               "number_of": ["symbols", "base"], "symbols_of": ["number", "base"]},
+    "registers": {"adding": []},
+    "fractions": {"primes": ["count"], "exponent": ["prime", "number"]},
+    "combinators": {"size": ["term"], "show_term": ["term"], "parse_term": ["text"],
+                    "abstraction": ["variable", "term"],
+                    "put": ["variable", "argument", "term"], "variables": ["term"]},
+}
+
+CLASSES = {
+    "errors": {"TranslatoryError": {}, "InvalidMachine": {}, "NotFitting": {},
+               "InvalidFunction": {}, "BadArgument": {},
+               "InvalidText": {"__init__": ["line"]},
+               "TooLong": {"__init__": ["limit"]}, "TooLarge": {"__init__": ["limit"]}},
+    "turing": {"Turing": {"__init__": ["states", "symbols", "rules"], "step": ["configuration"],
+                          "rule": ["state", "symbol"], "is_configuration": ["configuration"]}},
+    "registers": {"Registers": {"__init__": ["count", "instructions"], "step": ["configuration"],
+                                "is_configuration": ["configuration"]}},
+    "fractions": {"Fractions": {"__init__": ["pairs"], "step": ["configuration"]}},
+    "tags": {"Tags": {"__init__": ["productions"], "step": ["configuration"]}},
+    "strings": {"Strings": {"__init__": ["rules"], "step": ["configuration"]}},
+    "combinators": {"Combinators": {"__init__": ["letters"], "step": ["term"]}},
+    "chains": {"Chain": {"__init__": ["translations"], "picture": ["configuration"],
+                         "read_back": ["configuration"], "cost": ["configuration"],
+                         "last_steps": ["configuration"]}},
+}
+
+
+def definitions(nodes, kind):
+    """The definitions among some nodes, by their names."""
+    return {node.name: node for node in nodes if isinstance(node, kind)}
+
+
+def parameters(function):
+    """The names of the plain parameters of a function."""
+    return [argument.arg for argument in function.args.args]
+
+
+class InterfaceTest(unittest.TestCase):
+    def body(self, module):
+        return ast.parse((PACKAGE / f"{module}.py").read_text()).body
+
+    def test_functions(self):
+        for module, functions in FUNCTIONS.items():
+            found = definitions(self.body(module), ast.FunctionDef)
+            for name, names in functions.items():
+                self.assertEqual(parameters(found[name]), names, name)
+
+    def test_classes_and_their_own_methods(self):
+        for module, classes in CLASSES.items():
+            found = definitions(self.body(module), ast.ClassDef)
+            for name, methods in classes.items():
+                own = definitions(found[name].body, ast.FunctionDef)
+                for method, names in methods.items():
+                    self.assertEqual(parameters(own[method]), ["self", *names], (name, method))
+
+    def test_the_limit_of_a_chain(self):
+        chain = definitions(self.body("chains"), ast.ClassDef)["Chain"]
+        arguments = definitions(chain.body, ast.FunctionDef)["__init__"].args
+        self.assertEqual([argument.arg for argument in arguments.kwonlyargs], ["limit"])
+        self.assertEqual(arguments.kw_defaults[0].value, 100000)

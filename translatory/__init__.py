@@ -1,0 +1,1 @@
+"""Translatory: machines of many kinds that run alike."""

@@ -1,0 +1,121 @@
+"""Turing machines, and the numbers of tuples of symbols."""
+
+from translatory.errors import InvalidMachine
+
+MOST_STATES = 20000
+MOST_SYMBOLS = 400
+BLANK = 0
+
+
+class Turing:
+    """A Turing machine; its configurations are tuples `(state, left, here, right)`."""
+
+    def __init__(self, states, symbols, rules):
+        if not 1 <= states <= MOST_STATES:
+            raise InvalidMachine("the number of states is out of its range")
+        if not 2 <= symbols <= MOST_SYMBOLS:
+            raise InvalidMachine("the number of symbols is out of its range")
+        for rule in rules:
+            if not _is_rule(rule, states, symbols):
+                raise InvalidMachine("a rule is not as it should be")
+        self.states = states
+        self.symbols = symbols
+        self.rules = tuple(sorted(rules))
+        self._deeds = {(rule[0], rule[1]): rule[2:] for rule in self.rules}
+        if len(self._deeds) < len(self.rules):
+            raise InvalidMachine("two rules are for the same state and symbol")
+
+    def __eq__(self, other):
+        return (isinstance(other, Turing) and self.states == other.states
+                and self.symbols == other.symbols and self.rules == other.rules)
+
+    def step(self, configuration):
+        """The next configuration, or None if there is no rule."""
+        state, left, here, right = configuration
+        deed = self.rule(state, here)
+        if deed is None:
+            return None
+        written, move, following = deed
+        if move == 0:
+            return following, left, written, right
+        if move == 1:
+            here, right = _taken(right)
+            return following, _pushed(written, left), here, right
+        here, left = _taken(left)
+        return following, left, here, _pushed(written, right)
+
+    def rule(self, state, symbol):
+        """The tuple `(written, move, next)` for a state and a symbol, or None."""
+        return self._deeds.get((state, symbol))
+
+    def is_configuration(self, configuration):
+        """True if state and symbols are there and no side ends with a blank."""
+        state, left, here, right = configuration
+        return (0 <= state < self.states and 0 <= here < self.symbols
+                and self._is_side(left) and self._is_side(right))
+
+    def _is_side(self, side):
+        if side and side[-1] == BLANK:
+            return False
+        return all([0 <= symbol < self.symbols for symbol in side])
+
+
+def start(word):
+    """The configuration in the state 0 with the head on the first symbol of the word."""
+    here, right = _taken(_without_end_blanks(word))
+    return 0, (), here, right
+
+
+def content(configuration):
+    """The symbols from the first to the last one that is not blank, from the left."""
+    _, left, here, right = configuration
+    from_right = _without_end_blanks(left[::-1] + (here,) + right)[::-1]
+    return _without_end_blanks(from_right)[::-1]
+
+
+def number_of(symbols, base):
+    """The number of a tuple of symbols, of which the first one counts least."""
+    number = 0
+    for symbol in reversed(symbols):
+        number = number * base + symbol
+    return number
+
+
+def symbols_of(number, base):
+    """The tuple without blanks at its end that has this number."""
+    symbols = []
+    while number > 0:
+        number, symbol = divmod(number, base)
+        symbols.append(symbol)
+    return tuple(symbols)
+
+
+def _is_rule(rule, states, symbols):
+    """True if a machine of so many states and symbols may have the rule."""
+    if len(rule) != 5:
+        return False
+    state, symbol, written, move, following = rule
+    return (0 <= state < states and 0 <= following < states
+            and 0 <= symbol < symbols and 0 <= written < symbols
+            and move in (-1, 0, 1))
+
+
+def _taken(side):
+    """The nearest symbol of a side, and the rest of the side."""
+    if not side:
+        return BLANK, side
+    return side[0], side[1:]
+
+
+def _pushed(symbol, side):
+    """The side with one more symbol before its nearest one."""
+    if symbol == BLANK and not side:
+        return side
+    return (symbol,) + side
+
+
+def _without_end_blanks(symbols):
+    end = len(symbols)
+    while end > 0 and symbols[end - 1] == BLANK:
+        end -= 1
+    return symbols[:end]
