@@ -18,6 +18,11 @@ FUNCTIONS = {
     "combinators": {"size": ["term"], "show_term": ["term"], "parse_term": ["text"],
                     "abstraction": ["variable", "term"],
                     "put": ["variable", "argument", "term"], "variables": ["term"]},
+    "following": {"total_cost": ["translation", "configuration", "count"],
+                  "stands_at": ["translation", "configuration", "count"],
+                  "answer_through": ["translation", "configuration", "limit"],
+                  "is_same_run": ["translation", "configuration", "count"]},
+    "fractionrun": {"own_primes": ["machine"]},
 }
 
 CLASSES = {
@@ -36,6 +41,18 @@ CLASSES = {
     "chains": {"Chain": {"__init__": ["translations"], "picture": ["configuration"],
                          "read_back": ["configuration"], "cost": ["configuration"],
                          "last_steps": ["configuration"]}},
+}
+
+
+TRANSLATIONS = {
+    "tapenumbers": ["TuringToRegisters"],
+    "twocounters": ["RegistersToCounters"],
+    "countertapes": ["CountersToTuring"],
+    "fractionrun": ["RegistersToFractions", "FractionsToRegisters"],
+    "binarytapes": ["TuringToBinary"],
+    "tagtapes": ["TuringToTags", "TagsToTuring"],
+    "stringtapes": ["TuringToStrings"],
+    "withouti": ["WithoutI"],
 }
 
 
@@ -66,6 +83,15 @@ class InterfaceTest(unittest.TestCase):
                 own = definitions(found[name].body, ast.FunctionDef)
                 for method, names in methods.items():
                     self.assertEqual(parameters(own[method]), ["self", *names], (name, method))
+
+    def test_translations(self):
+        for module, names in TRANSLATIONS.items():
+            found = definitions(self.body(module), ast.ClassDef)
+            for name in names:
+                own = definitions(found[name].body, ast.FunctionDef)
+                self.assertEqual(parameters(own["__init__"]), ["self", "machine"], name)
+                for method in ("picture", "read_back", "cost", "last_steps"):
+                    self.assertEqual(parameters(own[method]), ["self", "configuration"], (name, method))
 
     def test_the_limit_of_a_chain(self):
         chain = definitions(self.body("chains"), ast.ClassDef)["Chain"]

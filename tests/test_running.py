@@ -2,12 +2,12 @@
 
 import unittest
 
-from tests.samples import Countdown, Endless
+from tests.samples import Countdown, Endless, left_deep, right_deep
 from translatory.combinators import Combinators, parse_term, show_term
 from translatory.errors import BadArgument, TooLong
 from translatory.fractions import Fractions
 from translatory.registers import Registers
-from translatory.running import after, history, last, length
+from translatory.running import after, are_equal, history, last, length
 from translatory.strings import Strings
 from translatory.tags import Tags
 from translatory.turing import Turing, start
@@ -168,3 +168,19 @@ class EveryKindTest(unittest.TestCase):
         run = history(Combinators("SKI"), parse_term("S(KI)KS(IK)"), 9)
         self.assertEqual([show_term(term) for term in run],
                          ["S(KI)KS(IK)", "KIS(KS)(IK)", "I(KS)(IK)", "KS(IK)", "S"])
+
+
+class EqualConfigurationsTest(unittest.TestCase):
+    def test_as_python_does(self):
+        some = [0, 1, "S", "", (), (0,), (1,), (0, 0), ((0,), 0), (0, (0,)), ("S", ("S", "S")),
+                (("S", "S"), "S"), (0, (), 1, (1, 1)), (0, (), 1, (1, 2)), (0, (1,), 1, (1,))]
+        for one in some:
+            for other in some:
+                self.assertIs(are_equal(one, other), one == other)
+
+    def test_deep_terms(self):
+        for make in (left_deep, right_deep):
+            self.assertTrue(are_equal(make("S", "K", 9000), make("S", "K", 9000)))
+            self.assertFalse(are_equal(make("S", "K", 9000), make("S", "K", 8999)))
+            self.assertFalse(are_equal(make("S", "K", 9000), make("I", "K", 9000)))
+            self.assertFalse(are_equal(make("S", "K", 9000), make("S", "I", 9000)))

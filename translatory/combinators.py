@@ -34,18 +34,19 @@ class Combinators:
 
 def next_term(term):
     """The term after a step, of whatever size, or None in a normal form."""
-    seen = []
-    waiting = [(term, None, None)]
-    while waiting:
-        part, above, place = waiting.pop()
-        head, arguments = _unwound(part)
-        if _is_enough(head, arguments):
-            return _put_back(_used(head, arguments), seen, above, place)
-        for at, argument in enumerate(arguments):
-            if isinstance(argument, tuple):
-                waiting.append((argument, len(seen), at))
-        seen.append((head, arguments, above, place))
-    return None
+    seen = _looked_through(term)
+    head, arguments, above, place = seen[-1]
+    if not _is_enough(head, arguments):
+        return None
+    return _put_back(_used(head, arguments), seen, above, place)
+
+
+def next_letter(term):
+    """The letter whose rule the next step uses, or None in a normal form."""
+    head, arguments, _, _ = _looked_through(term)[-1]
+    if not _is_enough(head, arguments):
+        return None
+    return head
 
 
 def size(term):
@@ -103,7 +104,7 @@ def abstraction(variable, term):
     """The term that takes the variable out of a term."""
     # None stands for K applied to a part in which the variable does not stand.
     made = []
-    for part in _parts(term):
+    for part in all_parts(term):
         if not isinstance(part, tuple):
             made.append("I" if part == variable else None)
             continue
@@ -121,7 +122,7 @@ def abstraction(variable, term):
 
 def put(variable, argument, term):
     """The term with the argument in each place of the variable."""
-    parts = _parts(term)
+    parts = all_parts(term)
     places = parts.count(variable)
     # The size is known before the term is made, which could be too much to make.
     if size(term) + places * (size(argument) - 1) > LARGEST:
@@ -138,8 +139,21 @@ def put(variable, argument, term):
 
 def variables(term):
     """The ascending list of the variables in a term."""
-    letters = [part for part in _parts(term) if not isinstance(part, tuple)]
+    letters = [part for part in all_parts(term) if not isinstance(part, tuple)]
     return sorted({letter for letter in letters if _is_variable(letter)})
+
+
+def all_parts(term):
+    """All parts of a term in a list, each pair behind its left and its right part."""
+    parts = []
+    waiting = [term]
+    while waiting:
+        part = waiting.pop()
+        parts.append(part)
+        if isinstance(part, tuple):
+            waiting.extend(part)
+    parts.reverse()
+    return parts
 
 
 def _unwound(term):
@@ -149,6 +163,27 @@ def _unwound(term):
         term, right = term
         arguments.append(right)
     return term, arguments
+
+
+def _looked_through(term):
+    """The parts that are looked at for a step; if one has it, it is the last one.
+
+    Each is a tuple of its head, its arguments, and the number of the part and
+    the index of the argument in which it stands.
+    """
+    seen = []
+    waiting = [(term, None, None)]
+    while waiting:
+        part, above, place = waiting.pop()
+        head, arguments = _unwound(part)
+        if _is_enough(head, arguments):
+            waiting.clear()
+        else:
+            for at, argument in enumerate(arguments):
+                if isinstance(argument, tuple):
+                    waiting.append((argument, len(seen), at))
+        seen.append((head, arguments, above, place))
+    return seen
 
 
 def _wound(term, arguments):
@@ -183,19 +218,6 @@ def _put_back(term, seen, above, place):
         above = further
         place = further_place
     return term
-
-
-def _parts(term):
-    """All parts of a term in a list, each pair behind its left and its right part."""
-    parts = []
-    waiting = [term]
-    while waiting:
-        part = waiting.pop()
-        parts.append(part)
-        if isinstance(part, tuple):
-            waiting.extend(part)
-    parts.reverse()
-    return parts
 
 
 def _applied(left, right):

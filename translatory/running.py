@@ -5,7 +5,7 @@ from translatory.errors import BadArgument, TooLong
 
 def after(machine, configuration, count):
     """The configuration after `count` steps, or the last one of a shorter run."""
-    _refuse_negative(count)
+    refuse_negative(count)
     for _ in range(count):
         following = machine.step(configuration)
         if following is None:
@@ -16,7 +16,7 @@ def after(machine, configuration, count):
 
 def history(machine, configuration, count):
     """The configurations of the first `count` steps, the first one included."""
-    _refuse_negative(count)
+    refuse_negative(count)
     configurations = [configuration]
     for _ in range(count):
         configuration = machine.step(configuration)
@@ -46,7 +46,7 @@ def last(machine, configuration, limit):
 
 def _end(machine, configuration, limit):
     """The number of steps of the run and its last configuration, or None beyond the limit."""
-    _refuse_negative(limit)
+    refuse_negative(limit)
     for steps in range(limit + 1):
         following = machine.step(configuration)
         if following is None:
@@ -55,6 +55,22 @@ def _end(machine, configuration, limit):
     return None
 
 
-def _refuse_negative(number):
+def refuse_negative(number):
+    """Raises BadArgument for a number of steps that there is not."""
     if number < 0:
         raise BadArgument("a number of steps is negative")
+
+
+def are_equal(one, other):
+    """True if two configurations are equal, however deep their tuples are."""
+    waiting = [(one, other)]
+    while waiting:
+        one, other = waiting.pop()
+        if not (isinstance(one, tuple) and isinstance(other, tuple)):
+            if one != other:
+                return False
+        elif len(one) != len(other):
+            return False
+        else:
+            waiting.extend(list(zip(one, other)))
+    return True

@@ -62,15 +62,15 @@ class Turing:
 
 def start(word):
     """The configuration in the state 0 with the head on the first symbol of the word."""
-    here, right = _taken(_without_end_blanks(word))
+    here, right = _taken(without_end_blanks(word))
     return 0, (), here, right
 
 
 def content(configuration):
     """The symbols from the first to the last one that is not blank, from the left."""
     _, left, here, right = configuration
-    from_right = _without_end_blanks(left[::-1] + (here,) + right)[::-1]
-    return _without_end_blanks(from_right)[::-1]
+    from_right = without_end_blanks(left[::-1] + (here,) + right)[::-1]
+    return without_end_blanks(from_right)[::-1]
 
 
 def number_of(symbols, base):
@@ -114,7 +114,8 @@ def _pushed(symbol, side):
     return (symbol,) + side
 
 
-def _without_end_blanks(symbols):
+def without_end_blanks(symbols):
+    """The tuple without the blanks at its end."""
     end = len(symbols)
     while end > 0 and symbols[end - 1] == BLANK:
         end -= 1
