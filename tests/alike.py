@@ -22,6 +22,7 @@ def equal(one, other):
 def check_alike(test, translation, configuration, steps):
     """Follows the source for at most `steps` steps; returns how many it made."""
     source, target = translation.source, translation.target
+    check_instructions(test, target)
     place = translation.picture(configuration)
     made = 0
     while True:
@@ -44,6 +45,14 @@ def check_alike(test, translation, configuration, steps):
         test.assertIsNone(target.step(place))
         test.assertTrue(equal(translation.read_back(place), configuration))
     return made
+
+
+def check_instructions(test, machine):
+    """The instructions of a register program are formed as point 8 says."""
+    if isinstance(machine, Registers):
+        lengths = {"inc": 3, "dec": 4, "end": 1}
+        for instruction in machine.instructions:
+            test.assertEqual(len(instruction), lengths.get(instruction[0]))
 
 
 def walked(test, machine, configuration, steps):

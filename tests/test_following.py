@@ -98,8 +98,12 @@ class NoEnd(Stretched):
 class WrongWords(IntoWords):
     """A translation into a string system with a wrong cost at one configuration."""
 
+    def __init__(self, wrong_at):
+        IntoWords.__init__(self, "a")
+        self.wrong_at = wrong_at
+
     def cost(self, configuration):
-        return 2 if configuration == 2 else 1
+        return 2 if configuration == self.wrong_at else 1
 
 
 class BlankWords(IntoWords):
@@ -261,7 +265,7 @@ class SameRunTest(unittest.TestCase):
         self.other(EndsBetween("a", "b"), 4, 9)
 
     def test_wrong_last_steps(self):
-        for tail, told in [(2, 1), (2, 0), (2, 3), (0, 1), (1, -1)]:
+        for tail, told in [(2, 1), (2, 0), (2, 3), (0, 1), (1, -1), (0, -1)]:
             self.same(WrongLastSteps(tail, told), 3, 2)
             self.other(WrongLastSteps(tail, told), 3, 3)
             self.other(WrongLastSteps(tail, told), 3, 4)
@@ -279,8 +283,10 @@ class SameRunTest(unittest.TestCase):
         self.other(WrongReadBack("a", "b"), 0, 0)
 
     def test_a_wrong_translation_into_a_string_system(self):
-        self.same(WrongWords("a"), 4, 2)
-        self.other(WrongWords("a"), 4, 3)
+        for wrong_at in (1, 2, 3):
+            self.same(WrongWords(wrong_at), 4, 4 - wrong_at)
+            self.other(WrongWords(wrong_at), 4, 5 - wrong_at)
+            self.other(WrongWords(wrong_at), 4, 9)
 
     def test_a_word_with_more_blanks_is_enough_for_string_systems_only(self):
         translation = BlankWords()

@@ -21,7 +21,7 @@ class TuringToBinary:
         self.source = machine
         self._width = _width(machine.symbols)
         self._numbering = Numbering([("read", state, 1) for state in range(machine.states)])
-        rules = numbered_rules(self._numbering, self._deeds)
+        rules = numbered_rules(self._numbering, self._deeds_in)
         self.target = Turing(len(self._numbering.names), 2, rules)
 
     def picture(self, configuration):
@@ -32,7 +32,7 @@ class TuringToBinary:
             to_left.extend(self._digits(symbol))
         to_right = []
         for symbol in (here,) + right:
-            to_right.extend(reversed(self._digits(symbol)))
+            to_right.extend(self._digits(symbol)[::-1])
         return (state, without_end_blanks(tuple(to_left)), to_right[0],
                 without_end_blanks(tuple(to_right[1:])))
 
@@ -66,10 +66,10 @@ class TuringToBinary:
     def _blocks(self, digits):
         """The digits in blocks, with blanks at the end of the last one."""
         width = self._width
-        digits += (BLANK,) * (-len(digits) % width)
-        return [digits[start:start + width] for start in range(0, len(digits), width)]
+        filled = digits + (BLANK,) * (-len(digits) % width)
+        return [filled[start:start + width] for start in range(0, len(filled), width)]
 
-    def _deeds(self, name):
+    def _deeds_in(self, name):
         """What the target does in the state of this name."""
         if name[0] == "read":
             return self._reading_deeds(name[1], name[2])

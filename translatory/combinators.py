@@ -42,10 +42,8 @@ def next_term(term):
 
 
 def next_letter(term):
-    """The letter whose rule the next step uses, or None in a normal form."""
-    head, arguments, _, _ = _looked_through(term)[-1]
-    if not _is_enough(head, arguments):
-        return None
+    """The letter whose rule the next step uses; the term has a step."""
+    head, _, _, _ = _looked_through(term)[-1]
     return head
 
 

@@ -19,7 +19,7 @@ class CountersToTuring:
             raise NotFitting("no register program with two registers and so few instructions")
         self.source = machine
         numbering = Numbering([("at", place) for place in range(len(machine.instructions))])
-        rules = numbered_rules(numbering, self._deeds)
+        rules = numbered_rules(numbering, self._deeds_in)
         self.target = Turing(len(numbering.names), 3, rules)
 
     def picture(self, configuration):
@@ -46,7 +46,7 @@ class CountersToTuring:
         """There is no rule for the place of an "end"."""
         return 0
 
-    def _deeds(self, name):
+    def _deeds_in(self, name):
         """What the target does in the state of this name."""
         if name[0] == "at":
             return _first_deeds(self.source.instructions[name[1]])

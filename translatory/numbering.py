@@ -18,16 +18,16 @@ class Numbering:
         return number
 
 
-def numbered_rules(numbering, deeds_of):
+def numbered_rules(numbering, deeds_in):
     """The rules of a Turing machine whose states have names.
 
-    `deeds_of` tells for a name a list of tuples `(symbol, written, move, name)`.
+    `deeds_in` tells for a name a list of tuples `(symbol, written, move, name)`.
     It is asked for each name that there is, and for those that it tells.
     """
     rules = []
     state = 0
     while state < len(numbering.names):
-        deeds = deeds_of(numbering.names[state])
+        deeds = deeds_in(numbering.names[state])
         for symbol, written, move, name in deeds:
             rules.append((state, symbol, written, move, numbering.number(name)))
         state += 1

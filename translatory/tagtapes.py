@@ -115,7 +115,7 @@ class TagsToTuring:
             raise NotFitting("no tag system with so few symbols and so short productions")
         self.source = machine
         self._numbering = Numbering([("first",)])
-        rules = numbered_rules(self._numbering, self._deeds)
+        rules = numbered_rules(self._numbering, self._deeds_in)
         symbols = max(2, len(machine.productions) + 1)
         self.target = Turing(len(self._numbering.names), symbols, rules)
 
@@ -145,7 +145,7 @@ class TagsToTuring:
             return 1
         return 0
 
-    def _deeds(self, name):
+    def _deeds_in(self, name):
         """What the target does in the state of this name."""
         productions = self.source.productions
         tape_symbols = range(1, len(productions) + 1)
