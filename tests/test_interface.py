@@ -23,6 +23,10 @@ FUNCTIONS = {
                   "answer_through": ["translation", "configuration", "limit"],
                   "is_same_run": ["translation", "configuration", "count"]},
     "fractionrun": {"own_primes": ["machine"]},
+    "unary": {"unary": ["number"], "unary_value": ["term", "limit"], "sum_term": [], "product_term": []},
+    "universal": {"universal": []},
+    "recursive": {"is_function": ["thing"], "arity": ["function"], "value": ["function", "arguments"],
+                  "applications": ["function", "arguments"], "named": ["word"]},
 }
 
 CLASSES = {
@@ -41,8 +45,9 @@ CLASSES = {
     "chains": {"Chain": {"__init__": ["translations"], "picture": ["configuration"],
                          "read_back": ["configuration"], "cost": ["configuration"],
                          "last_steps": ["configuration"]}},
+    "compiling": {"Compiled": {"__init__": ["function"], "begin": ["arguments"],
+                               "answer": ["configuration"]}},
 }
-
 
 TRANSLATIONS = {
     "tapenumbers": ["TuringToRegisters"],
@@ -53,6 +58,7 @@ TRANSLATIONS = {
     "tagtapes": ["TuringToTags", "TagsToTuring"],
     "stringtapes": ["TuringToStrings"],
     "withouti": ["WithoutI"],
+    "universal": ["ToUniversal"],
 }
 
 
@@ -93,8 +99,11 @@ class InterfaceTest(unittest.TestCase):
                 for method in ("picture", "read_back", "cost", "last_steps"):
                     self.assertEqual(parameters(own[method]), ["self", "configuration"], (name, method))
 
-    def test_the_limit_of_a_chain(self):
+    def test_limits_that_are_told_by_name(self):
         chain = definitions(self.body("chains"), ast.ClassDef)["Chain"]
-        arguments = definitions(chain.body, ast.FunctionDef)["__init__"].args
-        self.assertEqual([argument.arg for argument in arguments.kwonlyargs], ["limit"])
-        self.assertEqual(arguments.kw_defaults[0].value, 100000)
+        recursive = definitions(self.body("recursive"), ast.FunctionDef)
+        for function in (definitions(chain.body, ast.FunctionDef)["__init__"], recursive["value"],
+                         recursive["applications"]):
+            arguments = function.args
+            self.assertEqual([argument.arg for argument in arguments.kwonlyargs], ["limit"])
+            self.assertEqual(arguments.kw_defaults[0].value, 100000)
