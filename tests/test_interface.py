@@ -1,6 +1,7 @@
 """The names of the interface stand where the interface lists them."""
 
 import ast
+import importlib
 import pathlib
 import unittest
 
@@ -27,6 +28,16 @@ FUNCTIONS = {
     "universal": {"universal": []},
     "recursive": {"is_function": ["thing"], "arity": ["function"], "value": ["function", "arguments"],
                   "applications": ["function", "arguments"], "named": ["word"]},
+    "papers": {"is_paper": ["machine", "configuration", "paper"],
+               "find_paper": ["machine", "configuration", "limit"],
+               "judge": ["machine", "configuration", "limit"],
+               "carried": ["translation", "configuration", "paper"]},
+    "machinetext": {"format_machine": ["machine"], "parse_machine": ["text"]},
+    "configtext": {"format_configuration": ["machine", "configuration"],
+                   "parse_configuration": ["machine", "text"]},
+    "sessions": {"hold": ["text"]},
+    "census": {"machine_count": ["states"], "machine_at": ["states", "index"], "index_of": ["machine"],
+               "census": ["states", "first", "last", "limit"]},
 }
 
 CLASSES = {
@@ -98,6 +109,13 @@ class InterfaceTest(unittest.TestCase):
                 self.assertEqual(parameters(own["__init__"]), ["self", "machine"], name)
                 for method in ("picture", "read_back", "cost", "last_steps"):
                     self.assertEqual(parameters(own[method]), ["self", "configuration"], (name, method))
+
+    def test_all_names_can_be_imported(self):
+        for table in (FUNCTIONS, CLASSES, TRANSLATIONS):
+            for module, names in table.items():
+                imported = importlib.import_module(f"translatory.{module}")
+                for name in names:
+                    self.assertEqual(getattr(imported, name).__module__, imported.__name__, name)
 
     def test_limits_that_are_told_by_name(self):
         chain = definitions(self.body("chains"), ast.ClassDef)["Chain"]
