@@ -564,7 +564,8 @@ class CarriedTest(unittest.TestCase):
         translation = TuringToBinary(BLINKING)
         self.assertEqual(carried(translation, BLANK_TAPE, ("repeat", 0, 2)), ("repeat", 0, 2))
         for paper in [("repeat", 0, 1), ("repeat", 2, 2), ("repeat", 2, 0), ("repeat", -2, 2), ("repeat", 0, -2),
-                      ("shift", 0, 2), ("growth", 0, 2), ("shift", 0, 100001), ("growth", 0, 100001)]:
+                      ("shift", 0, 2), ("growth", 0, 2), ("shift", 0, 100001), ("growth", 0, 100001),
+                      ("repeat", 100001, 100001), ("repeat", 100002, 100001), ("repeat", -2, 100002)]:
             with self.assertRaises(NotFitting):
                 carried(translation, BLANK_TAPE, paper)
         with self.assertRaises(NotFitting):

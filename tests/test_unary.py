@@ -123,6 +123,11 @@ class ValueTest(unittest.TestCase):
         self.assertIsNone(unary_value(term, 10))
         for larger in [(term, "S"), (parse_term("SKK"), ("K", right_deep("K", "K", 9997)))]:
             self.assertEqual(told_value(larger, 10), "large")
+            # Steps of the letters I and K before it take away what they should.
+            for text in ["I", "II", "KI(SS)", "K(KI)SS"]:
+                self.assertEqual(told_value((parse_term(text), larger), 10), "large")
+        for text in ["I", "II", "KI(SS)", "K(KI)SS"]:
+            self.assertIsNone(told_value((parse_term(text), term), 10))
 
     def test_against_whole_terms(self):
         random = Random(31)

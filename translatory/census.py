@@ -1,7 +1,7 @@
 """All Turing machines with two symbols in order, and what becomes of their runs."""
 
 from translatory.errors import BadArgument
-from translatory.papers import GREATEST_LIMIT, judge
+from translatory.papers import judge
 from translatory.powers import power
 from translatory.running import after
 from translatory.turing import Turing, content, start
@@ -46,8 +46,6 @@ def census(states, first, last, limit):
     _refuse_index(states, last)
     if first > last or last - first >= MOST_MACHINES:
         raise BadArgument("the range is empty or too long")
-    if not 0 <= limit <= GREATEST_LIMIT:
-        raise BadArgument("the limit is out of its range")
     counts = {"ends": 0, "loops": 0, "open": 0}
     most_steps = None
     most_marks = None

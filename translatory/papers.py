@@ -127,20 +127,24 @@ def _is_growth(one, other, emptied):
 def _is_shift(one, other, cells):
     """True if the machine does at `other` for ever what it did from `one` on.
 
-    `cells` are those of the head, from the one to the other. If the tapes
-    look alike from the head, what is true of one cell of the first tape is
-    true of the cell at the same distance from the head of the second one.
+    `cells` are those of the head, from the one to the other. Each cell of the
+    first tape is compared with the one of the second tape that stands as far
+    from the head.
     """
     state, left, here, right = one
     other_state, other_left, other_here, other_right = other
     if (state, here) != (other_state, other_here):
         return False
     moved = cells[-1] - cells[0]
-    if moved > 0 and right != other_right or moved < 0 and left != other_left:
+    if moved > 0 and not _are_same(right, other_right) or moved < 0 and not _are_same(left, other_left):
         return False
-    if moved >= 0 and not _are_near(left, other_left, cells[0] - min(cells)):
-        return False
-    return moved > 0 or _are_near(right, other_right, max(cells) - cells[0])
+    return (_are_near(left, other_left, cells[0] - min(cells))
+            and _are_near(right, other_right, max(cells) - cells[0]))
+
+
+def _are_same(side, other):
+    """True if two sides are equal; long ones of different lengths are not compared."""
+    return len(side) == len(other) and side == other
 
 
 def _are_near(side, other, reach):
@@ -168,10 +172,12 @@ def _found_repeat(run):
 
 
 def _flat(configuration):
-    """A flat tuple for a configuration, as terms may be too deep to be keys.
+    """What tells a configuration from all others, as terms may be too deep to be keys.
 
-    For each tuple it has None and the number of its parts.
+    If there are tuples in it, each one is told by None and the number of its parts.
     """
+    if not isinstance(configuration, tuple) or not any([isinstance(part, tuple) for part in configuration]):
+        return configuration
     flat = []
     waiting = [configuration]
     while waiting:

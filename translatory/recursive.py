@@ -3,7 +3,6 @@
 from translatory.errors import BadArgument, InvalidFunction, TooLong
 
 MOST_ARGUMENTS = 6
-MOST_IN_REPEAT = 5
 GREATEST_DEPTH = 12
 MOST_FUNCTIONS = 200
 
@@ -133,7 +132,8 @@ def _arity_or_none(thing):
         is_fitting = len(inner) >= 1 and len(inner) == outer and min(inner) == max(inner)
         return inner[0] if is_fitting else None
     if word == "repeat":
-        return outer + 1 if outer <= MOST_IN_REPEAT and inner[0] == outer + 2 else None
+        # No arity is above 6, so that of the first function is small enough.
+        return outer + 1 if inner[0] == outer + 2 else None
     return outer - 1 if outer >= 1 else None
 
 

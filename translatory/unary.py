@@ -62,7 +62,7 @@ class _Run:
 
     def __init__(self, term, limit):
         self._limit = limit
-        self._steps = 0
+        self._made = 0
         self._refuse_long()
         self.whole = _weighed(term)
         self._size = _size(self.whole)
@@ -76,7 +76,7 @@ class _Run:
                 arguments.append(right)
             if term not in ARGUMENTS_NEEDED or len(arguments) < ARGUMENTS_NEEDED[term]:
                 return term, arguments
-            self._steps += 1
+            self._made += 1
             self._refuse_long()
             term = self._used(term, arguments)
             if self._size > LARGEST:
@@ -99,7 +99,7 @@ class _Run:
 
     def _refuse_long(self):
         """Raises TooLong if there are more steps than the limit."""
-        if self._steps > self._limit:
+        if self._made > self._limit:
             raise TooLong(self._limit)
 
 
