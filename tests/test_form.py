@@ -2,11 +2,20 @@
 
 import ast
 import pathlib
+import re
 import unittest
 
 PACKAGE = pathlib.Path(__file__).resolve().parent.parent / "translatory"
 FROM_LIBRARY = {("math", "gcd")}
+NAME = re.compile("_?[A-Za-z][A-Za-z0-9_]*")
+DOUBLE_UNDERSCORES = {"__init__", "__eq__"}
 UNUSED_NAMES = {"register", "mro", "elements", "open", "input", "eval", "exec", "print", "chr"}
+
+
+def names_in(node):
+    """The names that stand in a node itself."""
+    found = [getattr(node, field, None) for field in ("id", "arg", "attr", "name", "asname")]
+    return [name for name in found if isinstance(name, str)]
 
 
 class FormTest(unittest.TestCase):
@@ -43,7 +52,26 @@ class FormTest(unittest.TestCase):
                     is_own = node.module.startswith("translatory.")
                     self.assertTrue(is_own or (node.module, alias.name) in FROM_LIBRARY, name)
 
+    def test_class_names_begin_with_a_letter(self):
+        for name, node in self.nodes():
+            if isinstance(node, ast.ClassDef):
+                self.assertRegex(node.name, "^[A-Za-z]", name)
+
+    def test_names_begin_with_at_most_one_underscore(self):
+        for name, node in self.nodes():
+            for found in names_in(node):
+                # A plain underscore is assigned, and never read.
+                is_unread = found == "_" and isinstance(getattr(node, "ctx", None), ast.Store)
+                self.assertTrue(NAME.fullmatch(found) or is_unread or found in DOUBLE_UNDERSCORES, (name, found))
+
+    def test_no_name_is_a_method_and_an_attribute(self):
+        methods = {part.name for _, node in self.nodes() if isinstance(node, ast.ClassDef)
+                   for part in node.body if isinstance(part, ast.FunctionDef)}
+        for name, node in self.nodes():
+            if isinstance(node, ast.Attribute) and isinstance(node.ctx, ast.Store):
+                self.assertNotIn(node.attr, methods, name)
+
     def test_names_that_are_not_used(self):
         for name, node in self.nodes():
-            for field in ("id", "arg", "attr", "name"):
-                self.assertNotIn(getattr(node, field, None), UNUSED_NAMES, name)
+            for found in names_in(node):
+                self.assertNotIn(found, UNUSED_NAMES, name)

@@ -15,7 +15,7 @@ class Compiled:
         self._function = function
         inputs = list(range(1, arity(function) + 1))
         spare = len(inputs) + 1
-        writer = _Writer(spare)
+        writer = Writer(spare)
         end = writer.listing.place(("end",))
         first = writer.code(function, inputs, ANSWER, spare + 1, end)
         # The spare register is empty, so this only goes on.
@@ -34,7 +34,7 @@ class Compiled:
         return values[ANSWER]
 
 
-class _Writer:
+class Writer:
     """Writes the instructions that find the value of a function, the last ones first.
 
     They take the arguments from the registers `inputs`, which they leave as

@@ -20,13 +20,13 @@ def arity(function):
 def value(function, arguments, *, limit=100000):
     """The value of the function for the arguments, found by at most `limit` applications."""
     refuse_arguments(function, arguments)
-    return _Work(limit).applied(function, arguments)
+    return Work(limit).applied(function, arguments)
 
 
 def applications(function, arguments, *, limit=100000):
     """How many applications the value needs."""
     refuse_arguments(function, arguments)
-    work = _Work(limit)
+    work = Work(limit)
     work.applied(function, arguments)
     return work.done
 
@@ -46,7 +46,7 @@ def refuse_arguments(function, arguments):
         raise BadArgument("an argument is negative")
 
 
-class _Work:
+class Work:
     """Applies functions, and counts how often it does."""
 
     def __init__(self, limit):

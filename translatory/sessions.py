@@ -25,12 +25,12 @@ WORDS = ("registers", "counters", "turing", "fractions", "binary", "tags", "stri
 
 def hold(text):
     """The list of the replies to the lines of a session."""
-    session = _Session()
+    session = Session()
     replies = [session.reply(line) for line in text.split("\n")]
     return [reply for reply in replies if reply is not None]
 
 
-class _Session:
+class Session:
     """A machine and a configuration, which are None as long as there are none."""
 
     def __init__(self):

@@ -22,7 +22,7 @@ def unary(number):
 
 def unary_value(term, limit):
     """The number whose unary term behaves as the term does, or None if there is none."""
-    run = _Run(((term, "f"), "x"), limit)
+    run = Run(((term, "f"), "x"), limit)
     number = 0
     is_unary = True
     waiting = [run.whole]
@@ -52,7 +52,7 @@ def product_term():
     return COMPOSING
 
 
-class _Run:
+class Run:
     """The run of a term, part by part.
 
     A head that has no step keeps its place for good, and its arguments run
