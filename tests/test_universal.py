@@ -1,5 +1,6 @@
 """Points 32 and 33: the universal machine."""
 
+import time
 import unittest
 from random import Random
 
@@ -31,6 +32,17 @@ def marked_cells(configuration):
     return sum(symbol != 0 for symbol in content(configuration))
 
 
+def best_seconds(function, tries=7):
+    """The least time that 50 calls take, as other programs may slow down most of the tries."""
+    found = []
+    for _ in range(tries):
+        begin = time.perf_counter()
+        for _ in range(50):
+            function()
+        found.append(time.perf_counter() - begin)
+    return min(found)
+
+
 class MachineTest(unittest.TestCase):
     def test_always_the_same(self):
         self.assertIsInstance(universal(), Turing)
@@ -50,6 +62,23 @@ class MachineTest(unittest.TestCase):
         self.assertEqual([translation.target == universal(),
                           answer_through(translation, (0, (), 1, (1,)), 100000)],
                          [True, (1, (1,), 1, (1,))])
+
+
+class SpeedTest(unittest.TestCase):
+    """50 calls are to take 0.2 seconds at most, on a machine that is not busy."""
+
+    def test_the_machine(self):
+        self.assertLess(best_seconds(universal), 0.3)
+
+    def test_translations(self):
+        for machine in [Turing(1, 2, []), turing_of_size(40, 2)]:
+            self.assertLess(best_seconds(lambda: ToUniversal(machine)), 0.3)
+
+    def test_the_code_is_short(self):
+        # A step copies the tape, so it takes the longer the more cells the code has.
+        for states in (1, 2, 20, 40):
+            picture = ToUniversal(turing_of_size(states, 2)).picture((0, (), 0, ()))
+            self.assertLessEqual(source_cells(picture), 4 * states + 3)
 
 
 class PictureTest(unittest.TestCase):
@@ -112,6 +141,25 @@ class RunTest(unittest.TestCase):
                     for right in SIDES:
                         for here in (0, 1):
                             self.assertGreaterEqual(check_alike(self, translation, (0, left, here, right), 4), 1)
+
+    def test_all_rules(self):
+        for written in (0, 1):
+            for move in (-1, 0, 1):
+                for following in range(40):
+                    machine = Turing(40, 2, [(0, 1, written, move, following)])
+                    translation = ToUniversal(machine)
+                    for side in [(), (0, 1)]:
+                        self.assertGreaterEqual(check_alike(self, translation, (0, side, 1, side), 2), 1)
+
+    def test_all_places_of_rules(self):
+        for state in range(40):
+            for here in (0, 1):
+                machine = Turing(40, 2, [(state, here, 1, -1, 39 - state)])
+                translation = ToUniversal(machine)
+                self.assertGreaterEqual(check_alike(self, translation, (state, (1,), here, (1,)), 2), 1)
+                self.assertEqual(check_alike(self, translation, (state, (1,), 1 - here, (1,)), 2), 0)
+                if state < 39:
+                    self.assertEqual(check_alike(self, translation, (state + 1, (1,), here, (1,)), 2), 0)
 
     def test_places_without_a_rule(self):
         for states in (1, 2, 40):

@@ -15,14 +15,13 @@ class Turing:
             raise InvalidMachine("the number of states is out of its range")
         if not 2 <= symbols <= MOST_SYMBOLS:
             raise InvalidMachine("the number of symbols is out of its range")
-        for rule in rules:
-            if not _is_rule(rule, states, symbols):
-                raise InvalidMachine("a rule is not as it should be")
+        if not _are_rules(rules, states, symbols):
+            raise InvalidMachine("a rule is not as it should be")
         self.states = states
         self.symbols = symbols
         self.rules = tuple(sorted(rules))
-        self._deeds = {(rule[0], rule[1]): rule[2:] for rule in self.rules}
-        if len(self._deeds) < len(self.rules):
+        self._rules_at = {(rule[0], rule[1]): rule for rule in self.rules}
+        if len(self._rules_at) < len(self.rules):
             raise InvalidMachine("two rules are for the same state and symbol")
 
     def __eq__(self, other):
@@ -31,22 +30,32 @@ class Turing:
 
     def step(self, configuration):
         """The next configuration, or None if there is no rule."""
+        # Most of a long run is spent here, so no other function is called.
         state, left, here, right = configuration
-        deed = self.rule(state, here)
-        if deed is None:
+        rule = self._rules_at.get((state, here))
+        if rule is None:
             return None
-        written, move, following = deed
+        _, _, written, move, following = rule
         if move == 0:
             return following, left, written, right
         if move == 1:
-            here, right = _taken(right)
-            return following, _pushed(written, left), here, right
-        here, left = _taken(left)
-        return following, left, here, _pushed(written, right)
+            if left or written != BLANK:
+                left = (written,) + left
+            if right:
+                return following, left, right[0], right[1:]
+            return following, left, BLANK, right
+        if right or written != BLANK:
+            right = (written,) + right
+        if left:
+            return following, left[1:], left[0], right
+        return following, left, BLANK, right
 
     def rule(self, state, symbol):
         """The tuple `(written, move, next)` for a state and a symbol, or None."""
-        return self._deeds.get((state, symbol))
+        rule = self._rules_at.get((state, symbol))
+        if rule is None:
+            return None
+        return rule[2:]
 
     def is_configuration(self, configuration):
         """True if state and symbols are there and no side ends with a blank."""
@@ -62,8 +71,10 @@ class Turing:
 
 def start(word):
     """The configuration in the state 0 with the head on the first symbol of the word."""
-    here, right = _taken(without_end_blanks(word))
-    return 0, (), here, right
+    symbols = without_end_blanks(word)
+    if not symbols:
+        return 0, (), BLANK, ()
+    return 0, (), symbols[0], symbols[1:]
 
 
 def content(configuration):
@@ -90,28 +101,15 @@ def symbols_of(number, base):
     return tuple(symbols)
 
 
-def _is_rule(rule, states, symbols):
-    """True if a machine of so many states and symbols may have the rule."""
-    if len(rule) != 5:
+def _are_rules(rules, states, symbols):
+    """True if a machine of so many states and symbols may have each of the rules."""
+    if not all([len(rule) == 5 for rule in rules]):
         return False
-    state, symbol, written, move, following = rule
-    return (0 <= state < states and 0 <= following < states
-            and 0 <= symbol < symbols and 0 <= written < symbols
-            and move in (-1, 0, 1))
-
-
-def _taken(side):
-    """The nearest symbol of a side, and the rest of the side."""
-    if not side:
-        return BLANK, side
-    return side[0], side[1:]
-
-
-def _pushed(symbol, side):
-    """The side with one more symbol before its nearest one."""
-    if symbol == BLANK and not side:
-        return side
-    return (symbol,) + side
+    for state, symbol, written, move, following in rules:
+        if not (0 <= state < states and 0 <= following < states
+                and 0 <= symbol < symbols and 0 <= written < symbols and -1 <= move <= 1):
+            return False
+    return True
 
 
 def without_end_blanks(symbols):
